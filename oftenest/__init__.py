@@ -1,0 +1,1 @@
+"""What came oftenest: counters at stations, and what they tell."""
