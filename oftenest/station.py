@@ -1,16 +1,13 @@
 """A station: who it is, and what it knows of its stream. Each call answers a list, the first number first."""
 
-from oftenest.message import message_of
-from oftenest.stream import Stream
+from oftenest.message import MOST_STATIONS, message_of
+from oftenest.stream import MOST_READINGS, Stream, may_count
 
-MOST_ME = 15
-MOST_COUNTERS = 16
-MOST_READINGS = 4294967295
 NO_ROOM = -28
 
 
-def may_start(me, k):
-    return me <= MOST_ME and 1 <= k and k <= MOST_COUNTERS
+def may_start_station(me, k):
+    return me < MOST_STATIONS and may_count(k)
 
 
 class Station:
@@ -28,5 +25,4 @@ class Station:
         return [0] + message_of(self.me, self.stream)
 
     def tell(self, x):
-        found = 1 if self.stream.has_counter(x) else 0
-        return [found] + self.stream.told(x)
+        return self.stream.told(x)

@@ -1,5 +1,8 @@
 """What is known of a stream of readings, kept in at most k counters."""
 
+MOST_COUNTERS = 16
+MOST_READINGS = 4294967295
+
 
 class Stream:
     def __init__(self, k):
@@ -15,22 +18,52 @@ class Stream:
             self.counts[x] = 1
         else:
             # x gives up its own 1 along with one of each counter, so every count is too low by one more at most.
-            self.counts = one_less(self.counts)
+            self.counts = lowered(self.counts, 1)
             self.wrong = self.wrong + 1
         self.readings = self.readings + 1
 
-    def has_counter(self, x):
-        return x in self.counts
-
     def told(self, x):
-        """How often x came, from below and from above, and how many readings there were."""
+        """Whether x has a counter, how often it came from below and from above, and how many readings there were."""
+        found = 1 if x in self.counts else 0
         low = self.counts.get(x, 0)
-        return [low, low + self.wrong, self.readings]
+        return [found, low, low + self.wrong, self.readings]
+
+    def oftener(self, p):
+        """The values, rising, that came oftener than once in p by their counts."""
+        return [x for x in sorted(self.counts) if self.counts[x] * p > self.readings]
 
 
-def one_less(counts):
+def may_count(k):
+    return 1 <= k and k <= MOST_COUNTERS
+
+
+def lowered(counts, by):
     left = {}
     for x in counts:
-        if counts[x] > 1:
-            left[x] = counts[x] - 1
+        if counts[x] > by:
+            left[x] = counts[x] - by
     return left
+
+
+def summed(one, other):
+    counts = dict(one)
+    for x in other:
+        counts[x] = counts.get(x, 0) + other[x]
+    return counts
+
+
+def greatest_but(counts, k):
+    """The count behind the k greatest, 0 where there is none."""
+    if len(counts) <= k:
+        return 0
+    return sorted(counts.values(), reverse=True)[k]
+
+
+def put_together(one, other):
+    counts = summed(one.counts, other.counts)
+    c = greatest_but(counts, one.k)
+    both = Stream(one.k)
+    both.readings = one.readings + other.readings
+    both.counts = lowered(counts, c)
+    both.wrong = one.wrong + other.wrong + c
+    return both

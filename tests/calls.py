@@ -23,9 +23,28 @@ def os_reads(station, values):
     return [os_read(station, x) for x in values]
 
 
+def oc_start(k, stations):
+    return [4, 0, k, stations]
+
+
+def oc_heard(message):
+    return [5, 0, len(message)] + message
+
+
+def oc_of(x):
+    return [6, 0, x]
+
+
+def oc_often(p):
+    return [7, 0, p]
+
+
 def ask(rows):
     """The answers to the calls, a list for each call."""
-    given = answers([number for row in rows for number in row])
+    calls = [number for row in rows for number in row]
+    if len(rows) > 1000 or len(calls) > 30000:
+        raise AssertionError(f"{len(rows)} calls of {len(calls)} numbers are more than a list may hold")
+    given = answers(calls)
     parts = []
     at = 0
     while at < len(given):

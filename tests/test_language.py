@@ -22,6 +22,11 @@ WORDS_OUT = re.compile(
     r"\b(type|typing|typing_extensions|enum|Enum|IntEnum|StrEnum|Flag|IntFlag|Generic|Protocol|ABC|ABCMeta|"
     r"namedtuple|NamedTuple|TypedDict|TYPE_CHECKING|abstractmethod)\b|dataclass|overload|contextmanager")
 
+METHODS = (
+    "append clear copy count endswith extend find get index insert isalnum isalpha isdigit islower isspace isupper "
+    "items join keys ljust lower lstrip partition pop remove replace reverse rfind rjust rpartition rsplit rstrip "
+    "setdefault split splitlines startswith strip update upper values zfill bit_length").split()
+
 
 def sources():
     return [(path, path.read_text(encoding="utf-8")) for path in sorted(PACKAGE.glob("*.py"))]
@@ -102,6 +107,39 @@ class Language(unittest.TestCase):
                     self.assertEqual(node.level, 0, path)
                     self.assertTrue((PACKAGE.parent / (node.module.replace(".", "/") + ".py")).is_file(), path)
                     self.assertRegex(node.module, r"^oftenest\.", path)
+
+    def test_no_two_files_draw_from_one_another(self):
+        drawn = {}
+        for path, text in sources():
+            nodes = [node for node in ast.walk(ast.parse(text)) if isinstance(node, ast.ImportFrom)]
+            drawn["oftenest." + path.stem] = {node.module for node in nodes}
+        while drawn:
+            free = [name for name in drawn if not drawn[name] & set(drawn)]
+            self.assertNotEqual(free, [], drawn)
+            drawn = {name: drawn[name] for name in drawn if name not in free}
+
+    def test_methods_and_values(self):
+        methods, values, called = set(), set(), set()
+        for path, text in sources():
+            for node in ast.walk(ast.parse(text)):
+                if isinstance(node, ast.ClassDef):
+                    methods |= {part.name for part in node.body if isinstance(part, ast.FunctionDef)}
+                elif isinstance(node, ast.Attribute) and isinstance(node.ctx, ast.Store):
+                    values.add(node.attr)
+                elif isinstance(node, ast.Call) and isinstance(node.func, ast.Attribute):
+                    called.add(node.func.attr)
+        self.assertEqual(methods & values, set())
+        self.assertEqual(called - methods - set(METHODS), set())
+        of_pythons_own = {name for kind in (int, str, list, tuple, dict, set, bytes) for name in dir(kind)}
+        self.assertEqual((methods | values) & of_pythons_own, {"__init__"})
+
+    def test_is_stands_beside_none_true_and_false_alone(self):
+        for path, text in sources():
+            for node in ast.walk(ast.parse(text)):
+                if isinstance(node, ast.Compare):
+                    for operator, right in zip(node.ops, node.comparators):
+                        if isinstance(operator, (ast.Is, ast.IsNot)):
+                            self.assertIn(ast.dump(right), [ast.dump(ast.Constant(x)) for x in (None, True, False)])
 
 
 if __name__ == "__main__":
